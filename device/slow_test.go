@@ -140,7 +140,7 @@ func (d *slowDevice) start(keep []byte) {
 		for at := w.sector * 512; at < w.sector*512+512 && at < w.then.reach; at++ {
 			safe.bytes[at] = w.then.bytes[at]
 		}
-		safe.reach = max(safe.reach, w.then.reach)
+		safe.reach = max(safe.reach, min(w.sector*512+512, w.then.reach))
 		d.safe = safe
 	}
 	d.seen, d.loose = d.safe, nil
