@@ -68,9 +68,11 @@ func TestPutAnswersNewMemory(t *testing.T) {
 	for i := range room {
 		room[i] = 0xee
 	}
-	later, _ := Put(g)
-	if !bytes.Equal(other, slowPut(g)) || !bytes.Equal(later, slowPut(g)) {
+	if !bytes.Equal(other, slowPut(g)) { // asked ahead of a further call, which would lay the same bytes again
 		t.Error("two answers have one memory")
+	}
+	if later, _ := Put(g); !bytes.Equal(later, slowPut(g)) {
+		t.Error("a later answer has the memory of one ahead")
 	}
 }
 
